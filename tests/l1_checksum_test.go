@@ -6,6 +6,7 @@ import (
 	"runtime"
 	"sync"
 	"testing"
+	"time"
 
 	"loop.example/s02972/impl"
 )
@@ -271,10 +272,14 @@ func TestSumsEndTheirGoroutines(t *testing.T) {
 		impl.AdlerUpdate(1, text)
 		impl.CrcUpdate(0, text)
 	}
-	// A goroutine that has said Done may still be on its way out; many of them would be ones that nobody waits for.
-	if after := runtime.NumGoroutine(); after > before+20 {
-		t.Errorf("%d goroutines before, %d after", before, after)
+	// A goroutine that has said Done may still be on its way out.
+	for range 1000 {
+		if runtime.NumGoroutine() <= before {
+			return
+		}
+		time.Sleep(time.Millisecond)
 	}
+	t.Errorf("%d goroutines before, %d after", before, runtime.NumGoroutine())
 }
 
 func TestSumsLeaveTheTextAlone(t *testing.T) {
