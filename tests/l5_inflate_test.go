@@ -690,15 +690,12 @@ func TestInflateOutsideItsBounds(t *testing.T) {
 	}
 }
 
-// checkBeginnings holds the answers for all beginnings of a text against that for the whole. Of a text that tells much, it leaves out most of those that are far from its end.
+// checkBeginnings holds the answers for all beginnings of a text against that for the whole.
 func checkBeginnings(t *testing.T, r infRow) {
 	t.Helper()
 	whole := impl.Inflate(r.b, r.size, r.dict)
 	_, read := plainInflate(r.b, r.size, r.dict)
 	for n := range len(r.b) + 1 {
-		if len(r.out) > 10000 && n%9 > 0 && n < len(r.b)-40 {
-			continue
-		}
 		got := impl.Inflate(r.b[:n], r.size, r.dict)
 		if !bytes.HasPrefix(whole.Out, got.Out) {
 			t.Fatalf("%s: the first %d bytes tell what the whole does not", r.what, n)
@@ -716,7 +713,7 @@ func checkBeginnings(t *testing.T, r infRow) {
 func TestBeginnings(t *testing.T) {
 	var classes [8]int
 	for _, r := range inflateRows() {
-		if len(r.b) > 1000 || len(r.dict) > 1000 {
+		if len(r.b) > 1000 {
 			continue
 		}
 		r.b = append(bytes.Clone(r.b), 0x55, 0xaa, 0, 0xff)
