@@ -9,13 +9,14 @@ import (
 // plainFault is the class that decides.
 type plainFault int64
 
-// plainInflater reads chapter 5 word by word and bit by bit; at tells how far it has read, and out begins behind the dictionary.
+// plainInflater reads chapter 5 word by word and bit by bit; at tells how far it has read, and out begins behind the dictionary. What was told before this stream counts for the limit alone.
 type plainInflater struct {
-	b    []byte
-	at   int64
-	size int64
-	dict int
-	told []byte
+	b      []byte
+	at     int64
+	size   int64
+	dict   int
+	told   []byte
+	before []byte
 }
 
 func (r *plainInflater) out() []byte {
@@ -39,10 +40,18 @@ func (r *plainInflater) num(n int64) int64 {
 	return val
 }
 
-func failIf(wrong bool) {
+func failAs(class int64, wrong bool) {
 	if wrong {
-		panic(plainFault(impl.ClassBad))
+		panic(plainFault(class))
 	}
+}
+
+func failIf(wrong bool) {
+	failAs(impl.ClassBad, wrong)
+}
+
+func (r *plainInflater) align() {
+	r.at = (r.at + 7) / 8 * 8
 }
 
 // plainCode knows each symbol's code and all beginnings of codes.
@@ -120,7 +129,7 @@ func (r *plainInflater) blocks() {
 		last = r.num(1)
 		switch r.num(2) {
 		case 0:
-			r.at = (r.at + 7) / 8 * 8
+			r.align()
 			n := r.num(16)
 			failIf(r.num(16) != 65535-n)
 			for range n {
@@ -172,9 +181,7 @@ func (r *plainInflater) symbols(lits, dists []int64) {
 }
 
 func (r *plainInflater) tell(data ...byte) {
-	if len(r.out())+len(data) > 100000 {
-		panic(plainFault(impl.ClassLarge))
-	}
+	failAs(impl.ClassLarge, len(r.before)+len(r.out())+len(data) > 100000)
 	r.told = append(r.told, data...)
 }
 
